@@ -1,0 +1,45 @@
+// Package clone copies what package api declares, so that results share no memory with arguments.
+package clone
+
+import (
+	"slices"
+
+	"pipeline/api"
+)
+
+// List returns a list with copies of the elements.
+func List[T any](list []T, element func(T) T) []T {
+	copied := slices.Clone(list)
+	for i, x := range list {
+		copied[i] = element(x)
+	}
+	return copied
+}
+
+// Value returns a copy of a value.
+func Value(v api.Value) api.Value {
+	v.List = List(v.List, Value)
+	v.Keys = slices.Clone(v.Keys)
+	return v
+}
+
+// Expr returns a copy of an expression.
+func Expr(e api.Expr) api.Expr {
+	e.Value = Value(e.Value)
+	e.Args = List(e.Args, Expr)
+	e.Keys = slices.Clone(e.Keys)
+	return e
+}
+
+// Attr returns a copy of an attribute.
+func Attr(a api.Attr) api.Attr {
+	a.Expr = Expr(a.Expr)
+	return a
+}
+
+// Block returns a copy of a block.
+func Block(b api.Block) api.Block {
+	b.Attrs = List(b.Attrs, Attr)
+	b.Blocks = List(b.Blocks, Block)
+	return b
+}

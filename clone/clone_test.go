@@ -1,0 +1,84 @@
+package clone_test
+
+import (
+	"reflect"
+	"testing"
+
+	"pipeline/api"
+	"pipeline/clone"
+)
+
+// sample returns a block in which every list that a copy has to copy has elements.
+func sample() api.Block {
+	v := api.Value{Kind: api.VMap, Keys: []string{"k"}, List: []api.Value{{Kind: api.VList, List: []api.Value{{Kind: api.VInt, Int: 1}}}}}
+	lit := api.Expr{Kind: api.ELit, Value: v}
+	dict := api.Expr{Kind: api.EMap, Keys: []string{"a"}, Args: []api.Expr{lit}}
+	inner := api.Block{Kind: "inner", Name: "i", Attrs: []api.Attr{{Name: "y", Expr: dict}}}
+	return api.Block{Kind: "outer", Name: "o", Attrs: []api.Attr{{Name: "x", Expr: dict}}, Blocks: []api.Block{inner, {Kind: "empty"}}}
+}
+
+// overwrite changes everything in a block that memory holds which a copy could share.
+func overwrite(b api.Block) {
+	for i := range b.Attrs {
+		overwriteExpr(b.Attrs[i].Expr)
+		b.Attrs[i] = api.Attr{}
+	}
+	for i := range b.Blocks {
+		overwrite(b.Blocks[i])
+		b.Blocks[i] = api.Block{}
+	}
+}
+
+func overwriteExpr(e api.Expr) {
+	overwriteValue(e.Value)
+	clear(e.Keys)
+	for i := range e.Args {
+		overwriteExpr(e.Args[i])
+		e.Args[i] = api.Expr{}
+	}
+}
+
+func overwriteValue(v api.Value) {
+	clear(v.Keys)
+	for i := range v.List {
+		overwriteValue(v.List[i])
+		v.List[i] = api.Value{}
+	}
+}
+
+// R5: copies are equal to what they are made of, and share no memory with it.
+func TestCopies(t *testing.T) {
+	b := sample()
+	block, attr, expr, value := clone.Block(b), clone.Attr(b.Attrs[0]), clone.Expr(b.Attrs[0].Expr), clone.Value(b.Attrs[0].Expr.Args[0].Value)
+	overwrite(b)
+	want := sample()
+	if !reflect.DeepEqual(block, want) {
+		t.Errorf("Block = %v, want %v", block, want)
+	}
+	if !reflect.DeepEqual(attr, want.Attrs[0]) {
+		t.Errorf("Attr = %v, want %v", attr, want.Attrs[0])
+	}
+	if !reflect.DeepEqual(expr, want.Attrs[0].Expr) {
+		t.Errorf("Expr = %v, want %v", expr, want.Attrs[0].Expr)
+	}
+	if !reflect.DeepEqual(value, want.Attrs[0].Expr.Args[0].Value) {
+		t.Errorf("Value = %v", value)
+	}
+}
+
+func TestCopiesOfNothing(t *testing.T) {
+	if b := clone.Block(api.Block{}); !reflect.DeepEqual(b, api.Block{}) {
+		t.Errorf("Block = %v", b)
+	}
+	if e := clone.Expr(api.Expr{}); !reflect.DeepEqual(e, api.Expr{}) {
+		t.Errorf("Expr = %v", e)
+	}
+}
+
+func TestList(t *testing.T) {
+	list := []int{1, 2, 3}
+	double := clone.List(list, func(n int) int { return 2 * n })
+	if !reflect.DeepEqual(double, []int{2, 4, 6}) || !reflect.DeepEqual(list, []int{1, 2, 3}) {
+		t.Errorf("List = %v of %v", double, list)
+	}
+}
