@@ -23,6 +23,12 @@ func Value(v api.Value) api.Value {
 	return v
 }
 
+// Var returns a copy of a variable.
+func Var(v api.Var) api.Var {
+	v.Value = Value(v.Value)
+	return v
+}
+
 // Expr returns a copy of an expression.
 func Expr(e api.Expr) api.Expr {
 	e.Value = Value(e.Value)

@@ -50,6 +50,7 @@ func overwriteValue(v api.Value) {
 func TestCopies(t *testing.T) {
 	b := sample()
 	block, attr, expr, value := clone.Block(b), clone.Attr(b.Attrs[0]), clone.Expr(b.Attrs[0].Expr), clone.Value(b.Attrs[0].Expr.Args[0].Value)
+	variable := clone.Var(api.Var{Name: "v", Value: b.Attrs[0].Expr.Args[0].Value})
 	overwrite(b)
 	want := sample()
 	if !reflect.DeepEqual(block, want) {
@@ -63,6 +64,9 @@ func TestCopies(t *testing.T) {
 	}
 	if !reflect.DeepEqual(value, want.Attrs[0].Expr.Args[0].Value) {
 		t.Errorf("Value = %v", value)
+	}
+	if !reflect.DeepEqual(variable, api.Var{Name: "v", Value: want.Attrs[0].Expr.Args[0].Value}) {
+		t.Errorf("Var = %v", variable)
 	}
 }
 
