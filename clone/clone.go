@@ -49,3 +49,23 @@ func Block(b api.Block) api.Block {
 	b.Blocks = List(b.Blocks, Block)
 	return b
 }
+
+// Cache returns a copy of a use of the cache.
+func Cache(c api.CacheSpec) api.CacheSpec {
+	c.Restore = slices.Clone(c.Restore)
+	c.Files = slices.Clone(c.Files)
+	return c
+}
+
+// Job returns a copy of a job.
+func Job(j api.Job) api.Job {
+	for _, names := range []*[]string{&j.Needs, &j.Labels, &j.Inputs, &j.Uses, &j.Outputs, &j.Secrets, &j.Gate.Approvers, &j.Tests} {
+		*names = slices.Clone(*names)
+	}
+	j.When = Expr(j.When)
+	j.Vars = List(j.Vars, Var)
+	j.Steps = slices.Clone(j.Steps)
+	j.Retry.Classes = slices.Clone(j.Retry.Classes)
+	j.Caches = List(j.Caches, Cache)
+	return j
+}

@@ -70,6 +70,44 @@ func TestCopies(t *testing.T) {
 	}
 }
 
+// sampleJob returns a job in which every list that a copy has to copy has elements.
+func sampleJob() api.Job {
+	b := sample()
+	return api.Job{
+		ID: "a", Needs: []string{"b"}, When: b.Attrs[0].Expr, Vars: []api.Var{{Name: "v", Value: b.Blocks[0].Attrs[0].Expr.Args[0].Value}}, Steps: []api.Step{{Op: 1}},
+		Labels: []string{"l"}, Group: "g", Retry: api.Retry{Max: 1, Classes: []int{1}}, Inputs: []string{"i"}, Uses: []string{"u"}, Outputs: []string{"o"},
+		Caches: []api.CacheSpec{{Key: "k", Restore: []string{"r"}, Files: []string{"f"}}}, Secrets: []string{"s"}, HasGate: true,
+		Gate: api.GateSpec{Approvals: 1, Approvers: []string{"x"}, Expiry: 2}, Tests: []string{"t"}, Shard: 1, Shards: 2,
+	}
+}
+
+// R5: a copy of a job is equal to it, and shares no memory with it.
+func TestJob(t *testing.T) {
+	j := sampleJob()
+	job, cache := clone.Job(j), clone.Cache(j.Caches[0])
+	overwriteExpr(j.When)
+	overwriteValue(j.Vars[0].Value)
+	clear(j.Caches[0].Restore)
+	clear(j.Caches[0].Files)
+	for _, names := range [][]string{j.Needs, j.Labels, j.Inputs, j.Uses, j.Outputs, j.Secrets, j.Gate.Approvers, j.Tests} {
+		clear(names)
+	}
+	clear(j.Vars)
+	clear(j.Steps)
+	clear(j.Caches)
+	clear(j.Retry.Classes)
+	want := sampleJob()
+	if !reflect.DeepEqual(job, want) {
+		t.Errorf("Job = %+v, want %+v", job, want)
+	}
+	if !reflect.DeepEqual(cache, want.Caches[0]) {
+		t.Errorf("Cache = %+v", cache)
+	}
+	if j := clone.Job(api.Job{}); !reflect.DeepEqual(j, api.Job{}) {
+		t.Errorf("Job = %+v", j)
+	}
+}
+
 func TestCopiesOfNothing(t *testing.T) {
 	if b := clone.Block(api.Block{}); !reflect.DeepEqual(b, api.Block{}) {
 		t.Errorf("Block = %v", b)
