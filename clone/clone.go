@@ -69,3 +69,33 @@ func Job(j api.Job) api.Job {
 	j.Caches = List(j.Caches, Cache)
 	return j
 }
+
+// Pending returns a copy of a pending job.
+func Pending(p api.Pending) api.Pending {
+	p.Labels = slices.Clone(p.Labels)
+	return p
+}
+
+// Group returns a copy of a concurrency group.
+func Group(g api.Group) api.Group {
+	g.Waiting = slices.Clone(g.Waiting)
+	return g
+}
+
+// Worker returns a copy of a worker.
+func Worker(w api.Worker) api.Worker {
+	w.Labels = slices.Clone(w.Labels)
+	w.Tokens = slices.Clone(w.Tokens)
+	return w
+}
+
+// Sched returns a copy of the state of a scheduler.
+func Sched(s api.Sched) api.Sched {
+	return api.Sched{
+		Queue:    List(s.Queue, Pending),
+		Shares:   slices.Clone(s.Shares),
+		Accounts: slices.Clone(s.Accounts),
+		Groups:   List(s.Groups, Group),
+		Workers:  List(s.Workers, Worker),
+	}
+}

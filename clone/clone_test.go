@@ -124,3 +124,39 @@ func TestList(t *testing.T) {
 		t.Errorf("List = %v of %v", double, list)
 	}
 }
+
+// sampleSched returns a state of a scheduler in which every list that a copy has to copy has elements.
+func sampleSched() api.Sched {
+	return api.Sched{
+		Queue:    []api.Pending{{Ref: api.JobRef{Run: "r", Job: "j"}, Project: "p", Cost: 1, Labels: []string{"l"}, Group: "g"}, {}},
+		Shares:   []api.Share{{Project: "p", Weight: 1, Served: 2}},
+		Accounts: []api.Account{{Project: "p", Bucket: api.Bucket{Rate: 1, Burst: 2, Level: 3, At: 4}}},
+		Groups:   []api.Group{{Name: "g", Running: api.JobRef{Run: "r"}, Waiting: []api.JobRef{{Job: "w"}}}, {}},
+		Workers:  []api.Worker{{ID: "w", Labels: []string{"l"}, Slots: 2, Preemptible: true, Beat: 5, Tokens: []int{6}}, {}},
+	}
+}
+
+// R5: a copy of the state of a scheduler is equal to it, and shares no memory with it.
+func TestSched(t *testing.T) {
+	s := sampleSched()
+	sched, pending, group, worker := clone.Sched(s), clone.Pending(s.Queue[0]), clone.Group(s.Groups[0]), clone.Worker(s.Workers[0])
+	clear(s.Queue[0].Labels)
+	clear(s.Groups[0].Waiting)
+	clear(s.Workers[0].Labels)
+	clear(s.Workers[0].Tokens)
+	clear(s.Queue)
+	clear(s.Shares)
+	clear(s.Accounts)
+	clear(s.Groups)
+	clear(s.Workers)
+	want := sampleSched()
+	if !reflect.DeepEqual(sched, want) {
+		t.Errorf("Sched = %+v, want %+v", sched, want)
+	}
+	if !reflect.DeepEqual(pending, want.Queue[0]) || !reflect.DeepEqual(group, want.Groups[0]) || !reflect.DeepEqual(worker, want.Workers[0]) {
+		t.Errorf("Pending = %+v, Group = %+v, Worker = %+v", pending, group, worker)
+	}
+	if s := clone.Sched(api.Sched{}); !reflect.DeepEqual(s, api.Sched{}) {
+		t.Errorf("Sched = %+v", s)
+	}
+}
